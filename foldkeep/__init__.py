@@ -1,0 +1,1 @@
+"""Foldkeep: one folder on several devices, under programs that know nothing of it."""
