@@ -18,6 +18,18 @@ FUNCTIONS = {
         "numbered_name": "(longest, name, k)",
     },
     "patterns": {"matches": "(pattern, name)", "ignored": "(patterns, name)"},
+    "marks": {"checksum": "(text, factor)", "mark_of": "(text, runs)", "piece_of": "(text, start)"},
+    "hosts": {"host_copy": "(host)"},
+    "lines": {
+        "find_line": "(lines, line_id)", "find_head": "(lines, head)", "stands": "(lines, line)",
+        "settle": "(lines, place)", "move_line": "(lines, head, line_id, place)", "lines_after": "(lines, edit)",
+        "fold_lines": "(lines, edits)", "lines_of": "(edits)",
+    },
+    "news": {
+        "news_for": "(knowledge, since)", "edits_sound": "(edits)", "lines_sound": "(lines)",
+        "can_hear": "(knowledge, me, news)", "hear_news": "(knowledge, me, news)", "forget": "(knowledge)",
+        "forget_up_to": "(knowledge, clock)",
+    },
 }
 
 CLASSES = {
@@ -30,7 +42,23 @@ CLASSES = {
             "__init__": "(self, *, alike=(), unfit=(), longest=80, swaps=True, reads=True, cuts=True, turns=True)",
         },
     },
+    "hosts": {
+        "Host": {
+            "__init__": "(self, rule)", "program": "(self, deed)", "ask": "(self, operation)", "tree": "(self)",
+            "outside": "(self)", "shelf": "(self)",
+        },
+    },
+    "knowing": {
+        "Knowledge": {
+            "__init__": "(self, devices, *, clock=0, base=(), upto=0, rest=(), knows=None)", "lines": "(self)",
+            "is_head": "(self, edit_id)", "known_up_to": "(self, device)",
+            "write": "(self, me, place, content, line, replaces)", "drop": "(self, me, replaces)",
+            "move": "(self, me, moved)", "copy_of": "(self)",
+        },
+    },
 }
+
+CONSTANTS = {"marks": {"MOST_PIECE": 4096}}
 
 
 def defined_in(name):
@@ -64,6 +92,12 @@ class Interface(unittest.TestCase):
                         self.assertIn((word, method), defined_in(name))
                         made = getattr(getattr(module, word), method)
                         self.assertEqual(str(inspect.signature(made)), arguments)
+
+    def test_constants(self):
+        for name, constants in CONSTANTS.items():
+            module = importlib.import_module("foldkeep." + name)
+            for word, value in constants.items():
+                self.assertEqual(getattr(module, word), value)
 
 
 if __name__ == "__main__":

@@ -30,8 +30,8 @@ NODES = (
     ast.Module, ast.ImportFrom, ast.alias, ast.FunctionDef, ast.ClassDef, ast.arguments, ast.arg, ast.Return,
     ast.Assign, ast.AugAssign, ast.For, ast.While, ast.If, ast.Raise, ast.Try, ast.ExceptHandler, ast.Expr, ast.Pass,
     ast.Break, ast.Continue, ast.Delete, ast.BoolOp, ast.BinOp, ast.UnaryOp, ast.Lambda, ast.IfExp, ast.Dict,
-    ast.ListComp, ast.DictComp, ast.comprehension, ast.Compare, ast.Call, ast.FormattedValue, ast.JoinedStr,
-    ast.Constant, ast.Attribute, ast.Subscript, ast.Starred, ast.Name, ast.List, ast.Tuple, ast.Slice,
+    ast.ListComp, ast.DictComp, ast.comprehension, ast.Compare, ast.Call, ast.keyword, ast.FormattedValue,
+    ast.JoinedStr, ast.Constant, ast.Attribute, ast.Subscript, ast.Starred, ast.Name, ast.List, ast.Tuple, ast.Slice,
     ast.expr_context, ast.boolop, ast.operator, ast.unaryop, ast.cmpop,
 )
 
