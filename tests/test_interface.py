@@ -30,6 +30,20 @@ FUNCTIONS = {
         "can_hear": "(knowledge, me, news)", "hear_news": "(knowledge, me, news)", "forget": "(knowledge)",
         "forget_up_to": "(knowledge, clock)",
     },
+    "shown": {"shown_tree": "(rule, taken, lines)", "shown_at": "(tree, path, content)"},
+    "state": {
+        "placed_row": "(entry)", "shelved_row": "(entry)", "placed_at": "(placed, path)", "file_at": "(placed, path)",
+        "folder_at": "(placed, path)", "had_at": "(had, path)", "with_had": "(had, path, ids)",
+        "shelved_at": "(shelf, place)", "state_copy": "(state)",
+    },
+    "scanning": {
+        "scan_question": "(scan)", "answer_to_scan": "(state, scan, answer)", "scan_copy": "(scan)",
+    },
+    "telling": {
+        "names_at": "(placed, path, own)", "place_at": "(placed, path, own)", "own_name": "(entry, path)",
+        "replaced_by": "(state, had, read, was, thing, cuts)",
+    },
+    "ending": {"end_scan": "(state, scan)"},
 }
 
 CLASSES = {
@@ -55,6 +69,19 @@ CLASSES = {
             "write": "(self, me, place, content, line, replaces)", "drop": "(self, me, replaces)",
             "move": "(self, me, moved)", "copy_of": "(self)",
         },
+    },
+    "state": {
+        "KeeperState": {
+            "__init__": "(self, me, devices, rule, ignores, *, know=None, heard=(), placed=(), had=(), taken=(), "
+                        "shelf=(), next_place=0, pending=None, late=(), requests=(), pieces=(), away=(), holding=(), "
+                        "asking=(), fetching=(), drops=(), next_number=0, stage=('idle',))",
+        },
+        "Placed": {"__init__": "(self, path, names, thing, count, cuts, content, ids, line, seen)"},
+        "Shelved": {"__init__": "(self, place, thing, count, cuts, length, purpose)"},
+    },
+    "scanning": {
+        "Found": {"__init__": "(self, path, thing, kind, count, cuts, mark)"},
+        "Scan": {"__init__": "(self, heads)"},
     },
 }
 
