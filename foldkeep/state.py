@@ -140,6 +140,14 @@ def shelved_at(shelf, place):
     return None
 
 
+def shelf_index(shelf, place):
+    """The index of the first entry of the shelf at the place, or None."""
+    for at, entry in enumerate(shelf):
+        if entry.place == place:
+            return at
+    return None
+
+
 def state_copy(state):
     """An equal state that shares nothing that can change, except a scan."""
     copy = KeeperState(

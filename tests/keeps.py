@@ -5,7 +5,7 @@ from foldkeep.knowing import Knowledge
 from foldkeep.marks import mark_of
 from foldkeep.names import Rule
 from foldkeep.scanning import Found, Scan, answer_to_scan, scan_question
-from foldkeep.state import KeeperState, Placed, placed_row, shelved_row
+from foldkeep.state import KeeperState, Placed, Shelved, placed_row, shelved_row
 
 LISTS = (
     "devices", "heard", "placed", "had", "taken", "shelf", "late", "requests", "pieces", "away", "holding", "asking",
@@ -41,6 +41,39 @@ def found_folder(*path, thing=1):
 def found_file(*path, thing=1, count=0, cuts=0, text=None):
     """A file that a scan found; without a text it has no mark."""
     return Found(path, thing, "file", count, cuts, None if text is None else mark(text))
+
+
+def coming(place, head, text, *, thing=0, count=0, length=0, cuts=0):
+    """An entry of the shelf at which a text comes in."""
+    return Shelved(place, thing, count, cuts, length, ("coming", head, mark(text)))
+
+
+def kept(place, was, *, thing=None, count=None, cuts=0, length=0):
+    """An entry of the shelf that is kept; it lies there with the thing and the count of `was` if none are named."""
+    return Shelved(
+        place, was.thing if thing is None else thing, was.count if count is None else count, cuts, length,
+        ("kept", placed_row(was)))
+
+
+def found_there(place, was, *, thing=1, count=0, cuts=0, length=0):
+    """An entry of the shelf that was found where something else was expected."""
+    return Shelved(place, thing, count, cuts, length, ("found", placed_row(was)))
+
+
+def going_back(place, was, *, path=None, tries=0, thing=1, count=0, cuts=0, length=0):
+    """An entry of the shelf that goes back to a path, the one of `was` if none is named."""
+    return Shelved(
+        place, thing, count, cuts, length, ("back", placed_row(was), was.path if path is None else path, tries))
+
+
+def lies(place, thing, *, kind="file", count=0, cuts=0, length=0):
+    """A row of what a host tells of its shelf."""
+    return (place, thing, kind, count, cuts, length)
+
+
+def shelf_rows(shelf):
+    """The rows of entries of the shelf."""
+    return [shelved_row(entry) for entry in shelf]
 
 
 def knowing(lines, devices=(0, 1, 2), clock=None):

@@ -44,6 +44,21 @@ FUNCTIONS = {
         "replaced_by": "(state, had, read, was, thing, cuts)",
     },
     "ending": {"end_scan": "(state, scan)"},
+    "wanted": {
+        "wanted": "(state)", "wanted_at": "(entries, path)", "suits": "(entries, item)", "serves": "(state, ids, was)",
+        "text_place": "(state, content, ids)", "waits": "(state, path)",
+    },
+    "changes": {
+        "back_target": "(rule, path, tries)", "next_change": "(state)", "ask_for": "(state, operation)",
+    },
+    "looking": {
+        "lying_at": "(lying, place)", "put_right": "(shelf, lying)", "look": "(state, lying)",
+    },
+    "otherwise": {"read_found": "(state, place, was_read, answer)"},
+    "expected": {
+        "coming_entry": "(state, head)", "is_whole": "(entry)", "mark_of_head": "(state, head)",
+        "source": "(state, head)", "lacking": "(state)", "expect": "(state, head, mark)", "see_to_coming": "(state)",
+    },
 }
 
 CLASSES = {

@@ -226,6 +226,10 @@ class FoldersWithOtherNames(unittest.TestCase):
         lines = [a_line((7, 1), "con"), a_line((6, 0), "con"), a_line((9, 2), "con", "e", "a", text="x")]
         self.assertEqual(paths(shown(lines, unfit=("con",)))[0], ("con (6-0)",))
 
+    def test_it_is_the_line_below_it_that_counts_and_not_its_head(self):
+        lines = [a_line((5, 2), "con", "a", text="x", head=(9, 0)), a_line((6, 0), "con", "b", text="y")]
+        self.assertEqual(paths(shown(lines, unfit=("con",)))[0], ("con (5-2)",))
+
     def test_the_order_of_a_folder_counts_what_stands_deep_in_it(self):
         lines = [a_line((4, 0), "D", text="x"), a_line((7, 1), "d"), a_line((3, 2), "d", "e", "a", text="x")]
         self.assertEqual(paths(shown(lines, alike=("Dd",))), [("d",), ("d", "e"), ("d", "e", "a"), ("D (4-0)",)])
