@@ -1,7 +1,7 @@
 """Texts that are to come: where they come in, where they are, and what is asked for."""
 
 from foldkeep.lines import find_head
-from foldkeep.state import Shelved, placed_of
+from foldkeep.state import Shelved
 from foldkeep.wanted import heads_known, lies_at, serves_among, waits, wanted
 
 
@@ -48,7 +48,7 @@ def source(state, head):
         if has_text(item, head, content) and not waits(state, item.path):
             return (("read", item.path), item.thing, item.count)
     for entry in state.shelf:
-        if entry.purpose[0] == "kept" and has_text(placed_of(entry.purpose[1]), head, content):
+        if entry.purpose[0] == "kept" and has_text(entry.purpose[1], head, content):
             return (("read_shelf", entry.place), entry.thing, entry.count)
     return None
 

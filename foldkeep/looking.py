@@ -3,9 +3,7 @@
 What lies on the shelf is a list of tuples (place, thing, kind, count, cuts, length).
 """
 
-from foldkeep.state import (
-    Placed, Shelved, file_at, had_at, placed_at, placed_of, placed_row, shelf_index, shelved_at, with_heads,
-)
+from foldkeep.state import Placed, Shelved, file_at, had_at, placed_at, shelf_index, shelved_at, with_heads
 from foldkeep.telling import has_own_edit
 
 
@@ -104,10 +102,10 @@ def purpose_of(state, was, row):
     _, thing, kind, count, _, _ = row
     if kind == "file":
         if was.content is not None and was.thing == thing and was.count == count:
-            return ("kept", placed_row(was))
+            return ("kept", was)
         if not is_placed(state, thing, count):
-            return ("found", placed_row(was))
-    return ("back", placed_row(was), was.path, 0)
+            return ("found", was)
+    return ("back", was, was.path, 0)
 
 
 def is_placed(state, thing, count):
@@ -126,7 +124,7 @@ def after_give(state, change, entry, row):
     elif row is not None:
         state.late.append(change[0][2])
     elif goes_back:
-        put_back(state, placed_of(entry.purpose[1]))
+        put_back(state, entry.purpose[1])
     else:
         add_given(state, change, entry)
 

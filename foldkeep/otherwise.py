@@ -2,7 +2,7 @@
 
 from foldkeep.lines import find_head
 from foldkeep.marks import mark_of
-from foldkeep.state import Placed, Shelved, placed_of, placed_row, shelf_index, with_had
+from foldkeep.state import Placed, Shelved, shelf_index, with_had
 from foldkeep.telling import last_name, place_at, replaced_by
 
 
@@ -13,7 +13,7 @@ def read_found(state, place, was_read, answer):
     if at is None or state.shelf[at].purpose[0] != "found":
         return
     _, thing, count, cuts, text, runs = answer
-    was = placed_of(state.shelf[at].purpose[1])
+    was = state.shelf[at].purpose[1]
     content = mark_of(text, runs)
     ids = was.ids
     line = was.line
@@ -23,7 +23,7 @@ def read_found(state, place, was_read, answer):
         line = find_head(state.know.lines(), ids[0])[0]
         seen = False
     kept = Placed(was.path, was.names, thing, count, cuts, content, ids, line, seen)
-    state.shelf[at] = Shelved(place, thing, count, cuts, len(text), ("kept", placed_row(kept)))
+    state.shelf[at] = Shelved(place, thing, count, cuts, len(text), ("kept", kept))
 
 
 def tell_of(state, was, was_read, answer, content):

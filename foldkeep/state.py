@@ -69,20 +69,29 @@ def placed_row(entry):
 
 
 def shelved_row(entry):
-    """The attributes of an entry of the shelf, as a tuple."""
-    return (entry.place, entry.thing, entry.count, entry.cuts, entry.length, entry.purpose)
+    """The attributes of an entry of the shelf, as a tuple; what was expected is told as a tuple, too."""
+    purpose = entry.purpose
+    if holds_placed(purpose):
+        purpose = (purpose[0], placed_row(purpose[1])) + purpose[2:]
+    return (entry.place, entry.thing, entry.count, entry.cuts, entry.length, purpose)
 
 
-def placed_of(was):
-    """A placed entry for the tuple of its attributes; an entry that is given as such is taken as it is."""
-    if isinstance(was, tuple):
-        return Placed(*was)
-    return was
+def holds_placed(purpose):
+    """True if the purpose of an entry of the shelf holds a placed entry: what was expected."""
+    return purpose[0] != "coming"
 
 
-def shelved_of(row):
-    """An entry of the shelf for the tuple of its attributes."""
-    return Shelved(*row)
+def placed_copy(entry):
+    """An equal placed entry."""
+    return with_heads(entry, entry.ids, entry.line)
+
+
+def shelved_copy(entry):
+    """An equal entry of the shelf, with a placed entry of its own within its purpose."""
+    purpose = entry.purpose
+    if holds_placed(purpose):
+        purpose = (purpose[0], placed_copy(purpose[1])) + purpose[2:]
+    return Shelved(entry.place, entry.thing, entry.count, entry.cuts, entry.length, purpose)
 
 
 def with_heads(entry, ids, line):
@@ -152,8 +161,8 @@ def state_copy(state):
     """An equal state that shares nothing that can change, except a scan."""
     copy = KeeperState(
         state.me, state.devices, state.rule, state.ignores, know=state.know.copy_of(), heard=state.heard,
-        placed=[placed_of(placed_row(entry)) for entry in state.placed], had=state.had, taken=state.taken,
-        shelf=[shelved_of(shelved_row(entry)) for entry in state.shelf], next_place=state.next_place,
+        placed=[placed_copy(entry) for entry in state.placed], had=state.had, taken=state.taken,
+        shelf=[shelved_copy(entry) for entry in state.shelf], next_place=state.next_place,
         pending=state.pending, late=state.late, requests=state.requests, pieces=state.pieces, away=state.away,
         holding=state.holding, asking=state.asking, fetching=state.fetching, drops=state.drops,
         next_number=state.next_number, stage=state.stage,

@@ -1,6 +1,6 @@
 """How what stands at a path is told of: its names, its place, and which heads a write replaces."""
 
-from foldkeep.state import had_at, placed_at, placed_of
+from foldkeep.state import had_at, placed_at
 
 
 def names_at(placed, path, own):
@@ -60,7 +60,6 @@ def has_own_edit(state, ids):
 
 def replaced_by(state, had, read, was, thing, cuts):
     """The heads that a write over the placed file `was` replaces."""
-    was = placed_of(was)
     had_there = had_at(had, was.path)
     if thing == was.thing and (cuts == was.cuts or not state.rule.cuts):
         return was.ids

@@ -1,7 +1,6 @@
 """What is wanted in the folder, what of it is there, and where its texts lie on the shelf."""
 
 from foldkeep.shown import shown_at, shown_tree
-from foldkeep.state import placed_of
 
 
 def heads_known(state):
@@ -44,7 +43,7 @@ def serves_among(heads, ids, kept_ids):
 
 def serves(state, ids, was):
     """True if what is kept as `was` serves these heads."""
-    return serves_among(heads_known(state), ids, placed_of(was).ids)
+    return serves_among(heads_known(state), ids, was.ids)
 
 
 def is_reserved(state, place):
@@ -59,7 +58,7 @@ def lies_at(state, heads, content, ids):
     """The place at which a text with this content lies for these ids, where `heads` are all heads; or None."""
     for entry in state.shelf:
         if entry.purpose[0] == "kept":
-            was = placed_of(entry.purpose[1])
+            was = entry.purpose[1]
             if was.content == content and serves_among(heads, ids, was.ids) and not is_reserved(state, entry.place):
                 return entry.place
     return None

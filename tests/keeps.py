@@ -52,18 +52,18 @@ def kept(place, was, *, thing=None, count=None, cuts=0, length=0):
     """An entry of the shelf that is kept; it lies there with the thing and the count of `was` if none are named."""
     return Shelved(
         place, was.thing if thing is None else thing, was.count if count is None else count, cuts, length,
-        ("kept", placed_row(was)))
+        ("kept", was))
 
 
 def found_there(place, was, *, thing=1, count=0, cuts=0, length=0):
     """An entry of the shelf that was found where something else was expected."""
-    return Shelved(place, thing, count, cuts, length, ("found", placed_row(was)))
+    return Shelved(place, thing, count, cuts, length, ("found", was))
 
 
 def going_back(place, was, *, path=None, tries=0, thing=1, count=0, cuts=0, length=0):
     """An entry of the shelf that goes back to a path, the one of `was` if none is named."""
     return Shelved(
-        place, thing, count, cuts, length, ("back", placed_row(was), was.path if path is None else path, tries))
+        place, thing, count, cuts, length, ("back", was, was.path if path is None else path, tries))
 
 
 def lies(place, thing, *, kind="file", count=0, cuts=0, length=0):
@@ -72,7 +72,10 @@ def lies(place, thing, *, kind="file", count=0, cuts=0, length=0):
 
 
 def shelf_rows(shelf):
-    """The rows of entries of the shelf."""
+    """The rows of entries of the shelf, whose purposes must hold placed entries."""
+    for entry in shelf:
+        if entry.purpose[0] != "coming":
+            assert isinstance(entry.purpose[1], Placed), entry.purpose
     return [shelved_row(entry) for entry in shelf]
 
 
@@ -144,5 +147,5 @@ def looks_of(state):
     told = {name: value for name, value in vars(state).items() if name not in ("know", "placed", "shelf", "scan")}
     told["know"] = dict(vars(state.know))
     told["placed"] = rows(state.placed)
-    told["shelf"] = [shelved_row(entry) for entry in state.shelf]
+    told["shelf"] = shelf_rows(state.shelf)
     return {name: list(value) if isinstance(value, list) else value for name, value in told.items()}

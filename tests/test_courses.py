@@ -57,7 +57,7 @@ class Course(unittest.TestCase):
         self.assertEqual(self.host.ask(("stage", place, text, False)), ("done",))
         thing = [row[1] for row in self.host.ask(("shelf",))[1] if row[0] == place][0]
         was = a_file(thing=thing, text=text, ids=(head,), seen=False)
-        self.state.shelf.append(Shelved(place, thing, 0, 0, len(text), ("kept", placed_row(was))))
+        self.state.shelf.append(Shelved(place, thing, 0, 0, len(text), ("kept", was)))
 
     def work(self, ahead=None, answer=None):
         """Makes changes until there are none; `ahead` is called with each one, `answer` may stand in for the host."""
@@ -81,7 +81,7 @@ class Course(unittest.TestCase):
 
     def read(self, entry):
         was = entry.purpose[1]
-        flag = self.host.ask(("was_read", was[2], was[3]))[1]
+        flag = self.host.ask(("was_read", was.thing, was.count))[1]
         answer = self.host.ask(("read_shelf", entry.place))
         self.assertEqual(answer[0], "text")
         read_found(self.state, entry.place, flag is not False, answer)
@@ -91,7 +91,7 @@ class Course(unittest.TestCase):
 
     def kept(self):
         """The texts that lie on the shelf for good, in order."""
-        marks = [entry.purpose[1][5] for entry in self.state.shelf if entry.purpose[0] == "kept"]
+        marks = [entry.purpose[1].content for entry in self.state.shelf if entry.purpose[0] == "kept"]
         texts = [rows[0][5] for _, rows in self.host.shelf()]
         self.assertEqual(sorted(mark(text) for text in texts), sorted(marks))
         return texts

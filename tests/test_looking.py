@@ -79,7 +79,7 @@ class PutRight(unittest.TestCase):
                       found_there(3, WAS, thing=5, count=2), going_back(3, WAS, path=("q",), tries=7, thing=5, count=2)]:
             for row in [lies(3, 5, count=2, cuts=3, length=4), lies(3, 9, kind="folder"), lies(3, 9, kind="other")]:
                 _, thing, _, count, cuts, length = row
-                self.assertEqual(self.right(entry, row), [(3, thing, count, cuts, length, entry.purpose)])
+                self.assertEqual(self.right(entry, row), [(3, thing, count, cuts, length, shelved_row(entry)[5])])
 
     def test_a_coming_entry_where_nothing_lies(self):
         entry = coming(3, (1, 1), "x", thing=5, count=1, length=1, cuts=2)
@@ -270,7 +270,7 @@ class Gives(Giving):
         self.check(state, shelf=[found_there(3, WAS, thing=6)], late=[("l",), ("b",)])
         for entry in [found_there(3, WAS), coming(3, (1, 1), "x")]:
             state = self.given(entry, lies(3, 6, count=4))
-            self.assertEqual(shelf_rows(state.shelf), [(3, 6, 4, 0, 0, entry.purpose)])
+            self.assertEqual(shelf_rows(state.shelf), [(3, 6, 4, 0, 0, shelved_row(entry)[5])])
             self.assertEqual((state.placed, state.late), ([], [("l",), ("b",)]))
 
     def test_the_first_entry_at_the_place_counts(self):

@@ -74,7 +74,7 @@ class Edits(Case):
         state, edits = self.read(text("new"))
         self.assertEqual(edits, [("write", (7, 0), PLACE, mark("new"), (2, 1), ())])
         self.assertEqual(placed_row(WAS)[7], (2, 1))
-        self.assertEqual(state.shelf[1].purpose[1][6:], (((7, 0),), (7, 0), False))
+        self.assertEqual(placed_row(state.shelf[1].purpose[1])[6:], (((7, 0),), (7, 0), False))
         # The line that is meant tells where it stands.
         self.assertEqual(state.know.lines()[2], a_line((7, 0), "a", text="new", inside=(1, 1)))
 
@@ -96,14 +96,14 @@ class Edits(Case):
         state, edits = self.read(text("new"), was)
         self.assertEqual(edits, [("write", (7, 0), (None, ("",), ("",)), mark("new"), None, ())])
         self.assertEqual(state.had, [((), ((7, 0),))])
-        self.assertEqual(state.shelf[1].purpose[1][:2], ((), ()))
+        self.assertEqual(placed_row(state.shelf[1].purpose[1])[:2], ((), ()))
 
     def test_a_stand_in(self):
         was = a_folder("d", "b", thing=0, seen=False)
         state, edits = self.read(text("new"), was, had=[(("d", "b"), ((4, 1),))])
         self.assertEqual(edits, [("write", (7, 0), ((1, 1), ("b",), ("D", "b")), mark("new"), None, ((4, 1),))])
         row = (("d", "b"), ("d", "b"), 7, 3, 4, mark("new"), ((7, 0),), (7, 0), False)
-        self.assertEqual(state.shelf[1].purpose, ("kept", row))
+        self.assertEqual(shelf_rows(state.shelf)[1][5], ("kept", row))
 
     def test_two_found_one_after_the_other_at_one_path(self):
         state, _ = self.read(text("new"), was_read=True)

@@ -9,7 +9,7 @@ from foldkeep.state import (
     KeeperState, Placed, Shelved, file_at, folder_at, had_at, placed_at, placed_row, shelved_at, shelved_row,
     state_copy, with_had,
 )
-from keeps import LISTS, a_file, a_folder, a_line, knowing, looks_of, mark
+from keeps import LISTS, a_file, a_folder, a_line, knowing, looks_of, mark, shelf_rows
 
 FULL = {
     "heard": [(1, ((0, 2), (1, 3)))],
@@ -107,6 +107,21 @@ class Copies(unittest.TestCase):
             changed.stage = ("idle",)
             self.assertEqual(looks_of(pair[second]), before)
 
+    def test_what_was_expected_is_copied_too(self):
+        for kind, *more in [("kept",), ("found",), ("back", ("b",), 3)]:
+            was = a_file("a", text="x", ids=((1, 0),))
+            state = KeeperState(0, [0, 1], Rule(), (), shelf=[Shelved(2, 5, 0, 0, 1, (kind, was, *more))])
+            copy = state_copy(state)
+            self.assertEqual(shelf_rows(copy.shelf), shelf_rows(state.shelf))
+            for first, second in [(state, copy), (copy, state)]:
+                before = shelf_rows(second.shelf)
+                first.shelf[0].purpose[1].path = ("z",)
+                first.shelf[0].purpose[1].ids = ((9, 9),)
+                self.assertEqual(shelf_rows(second.shelf), before)
+                self.assertNotEqual(shelf_rows(first.shelf), before)
+                first.shelf[0].purpose[1].path = ("a",)
+                first.shelf[0].purpose[1].ids = ((1, 0),)
+
     def test_a_scan_is_shared(self):
         state = full_state()
         state.scan = Scan([])
@@ -125,12 +140,22 @@ class Entries(unittest.TestCase):
         self.assertEqual(placed_row(Placed((), (), 0, 0, 0, None, (), None, False)), ((), (), 0, 0, 0, None, (), None, False))
 
     def test_shelved(self):
-        was = placed_row(a_file("a"))
-        for purpose in [("coming", (1, 0), mark("x")), ("kept", was), ("found", was), ("back", was, ("a",), 2)]:
+        was = a_file("a", text="x", ids=((1, 0),), line=(1, 0))
+        row = (("a",), ("a",), 1, 0, 0, mark("x"), ((1, 0),), (1, 0), True)
+        for purpose, told in [
+            (("coming", (1, 0), mark("x")), ("coming", (1, 0), mark("x"))), (("kept", was), ("kept", row)),
+            (("found", was), ("found", row)), (("back", was, ("b",), 2), ("back", row, ("b",), 2)),
+        ]:
             entry = Shelved(1, 2, 3, 4, 5, purpose)
             self.assertEqual(
                 (entry.place, entry.thing, entry.count, entry.cuts, entry.length, entry.purpose), (1, 2, 3, 4, 5, purpose))
-            self.assertEqual(shelved_row(entry), (1, 2, 3, 4, 5, purpose))
+            self.assertEqual(shelved_row(entry), (1, 2, 3, 4, 5, told))
+            self.assertIs(entry.purpose, purpose)
+
+    def test_the_row_of_an_entry_whose_purpose_holds_a_folder_or_a_stand_in(self):
+        row = (("a",), ("a",), 0, 0, 0, None, (), None, False)
+        for kind in ["kept", "found"]:
+            self.assertEqual(shelved_row(Shelved(1, 2, 3, 4, 5, (kind, Placed(*row)))), (1, 2, 3, 4, 5, (kind, row)))
 
     def test_what_is_placed_at_a_path(self):
         placed = [a_file("b"), a_folder("a", thing=1), a_file("a", thing=2), a_folder("a", thing=3), a_file("a", thing=4)]

@@ -5,7 +5,7 @@ import unittest
 from foldkeep.names import Rule
 from foldkeep.state import placed_row
 from foldkeep.telling import names_at, own_name, place_at, replaced_by
-from keeps import a_file, a_folder, a_state
+from keeps import a_file, a_folder, a_state, looks_of
 
 
 class NamesAndPlaces(unittest.TestCase):
@@ -100,8 +100,9 @@ class Replaced(unittest.TestCase):
     def replaced(self, thing, cuts, *, read=False, ids=IDS, had=((("a",), ((1, 1),)),), rule=None):
         state = a_state(rule=rule, had=[(("a",), ((9, 9),))])
         was = a_file("a", thing=3, cuts=1, ids=ids)
+        before = (looks_of(state), placed_row(was))
         answer = replaced_by(state, list(had), read, was, thing, cuts)
-        self.assertEqual(replaced_by(state, list(had), read, placed_row(was), thing, cuts), answer)
+        self.assertEqual((looks_of(state), placed_row(was)), before)
         return answer
 
     def test_nothing_holds(self):
