@@ -10,12 +10,20 @@ def is_coming(entry):
     return entry.purpose[0] == "coming"
 
 
+def coming_index(state, head):
+    """The index of the entry of the shelf at which the head comes in, or None."""
+    for at, entry in enumerate(state.shelf):
+        if is_coming(entry) and entry.purpose[1] == head:
+            return at
+    return None
+
+
 def coming_entry(state, head):
     """The entry of the shelf at which the head comes in, or None."""
-    for entry in state.shelf:
-        if is_coming(entry) and entry.purpose[1] == head:
-            return entry
-    return None
+    at = coming_index(state, head)
+    if at is None:
+        return None
+    return state.shelf[at]
 
 
 def is_whole(entry):

@@ -145,7 +145,12 @@ def rows(placed):
 def looks_of(state):
     """All that a state is, as plain values (except for a scan)."""
     told = {name: value for name, value in vars(state).items() if name not in ("know", "placed", "shelf", "scan")}
-    told["know"] = dict(vars(state.know))
+    told["know"] = with_own_lists(vars(state.know))
     told["placed"] = rows(state.placed)
     told["shelf"] = shelf_rows(state.shelf)
+    return with_own_lists(told)
+
+
+def with_own_lists(told):
+    """An equal dict in which each list is a new one."""
     return {name: list(value) if isinstance(value, list) else value for name, value in told.items()}

@@ -59,6 +59,24 @@ FUNCTIONS = {
         "coming_entry": "(state, head)", "is_whole": "(entry)", "mark_of_head": "(state, head)",
         "source": "(state, head)", "lacking": "(state)", "expect": "(state, head, mark)", "see_to_coming": "(state)",
     },
+    "transfers": {"next_staging": "(state)", "fits_now": "(state, head, start)"},
+    "serving": {
+        "serving_operation": "(state, request)", "served": "(state, answer)",
+        "misread": "(state, head, thing, count, cuts, length)", "hear_ask": "(state, device, head, start)",
+        "hear_piece": "(state, head, start, text)", "say_asks": "(state)",
+    },
+    "holding": {
+        "holds_now": "(state, entry)", "is_held": "(state, place)", "hear_hold": "(state, device, number, head)",
+        "hear_held": "(state, device, number)", "hear_free": "(state, device, number)", "say_away": "(state, device)",
+    },
+    "away": {
+        "is_away": "(state, head)", "is_here": "(state, head)", "see_to_away": "(state)",
+        "wish_put_away": "(state, path, holder)", "wish_fetch": "(state, path)",
+    },
+    "kept": {
+        "is_spare": "(state, entry)", "wish_trim": "(state, most)", "next_drop": "(state)",
+        "wish_restore": "(state, place, path)",
+    },
 }
 
 CLASSES = {
@@ -100,7 +118,7 @@ CLASSES = {
     },
 }
 
-CONSTANTS = {"marks": {"MOST_PIECE": 4096}}
+CONSTANTS = {"marks": {"MOST_PIECE": 4096}, "serving": {"MOST_REQUESTS": 64}}
 
 
 def defined_in(name):
