@@ -5,8 +5,9 @@ from foldkeep.changes import ask_for, next_change
 from foldkeep.expected import see_to_coming
 from foldkeep.kept import next_drop
 from foldkeep.scanning import scan_question
-from foldkeep.serving import serving_operation
+from foldkeep.serving import serving_among, serving_operation
 from foldkeep.transfers import next_staging
+from foldkeep.wanted import heads_known
 
 
 def question_of(state):
@@ -80,8 +81,9 @@ def asked_for(state, operation):
 
 def next_serving(state):
     """The operation for the first request that can be served, or None; those that cannot are removed."""
-    state.requests = [request for request in state.requests if serving_operation(state, request) is not None]
+    heads = heads_known(state)
+    state.requests = [request for request in state.requests if serving_among(state, heads, request) is not None]
     if state.requests == []:
         return None
     state.stage = ("serving",)
-    return serving_operation(state, state.requests[0])
+    return serving_among(state, heads, state.requests[0])

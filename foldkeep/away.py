@@ -39,9 +39,8 @@ def see_to_away(state):
     state.away = [entry for entry in state.away if entry[0] in heads and entry[0] not in here]
     state.fetching = [head for head in state.fetching if is_away(state, head)]
     for head in state.fetching:
-        content = mark_of_head(state, head)
-        if content is not None:
-            expect(state, head, content)
+        if heads[head] is not None:
+            expect(state, head, heads[head])
 
 
 def wish_put_away(state, path, holder):

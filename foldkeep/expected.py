@@ -1,6 +1,5 @@
 """Texts that are to come: where they come in, where they are, and what is asked for."""
 
-from foldkeep.lines import find_head
 from foldkeep.state import Shelved
 from foldkeep.wanted import heads_known, lies_at, serves_among, waits, wanted
 
@@ -31,17 +30,9 @@ def is_whole(entry):
     return entry.thing != 0 and entry.length >= entry.purpose[2][0]
 
 
-def content_of(lines, head):
-    """The content of the line with this head; None if there is none."""
-    line = find_head(lines, head)
-    if line is None:
-        return None
-    return line[4]
-
-
 def mark_of_head(state, head):
     """The content of the line that has this head, or None."""
-    return content_of(state.know.lines(), head)
+    return heads_known(state).get(head)
 
 
 def has_text(item, head, content):
@@ -51,7 +42,12 @@ def has_text(item, head, content):
 
 def source(state, head):
     """Where the text of the head is: a tuple (operation, thing, count), or None."""
-    content = mark_of_head(state, head)
+    return source_among(state, heads_known(state), head)
+
+
+def source_among(state, heads, head):
+    """The source of the head, where `heads` are the contents of all lines, by head."""
+    content = heads.get(head)
     for item in state.placed:
         if has_text(item, head, content) and not waits(state, item.path):
             return (("read", item.path), item.thing, item.count)
@@ -62,7 +58,7 @@ def source(state, head):
 
 
 def is_lacking(state, heads, paths, goal):
-    """True if a wanted file is lacking, where `heads` are all heads and `paths` those at which something is wanted."""
+    """True if a wanted file is lacking, where `heads` are as above and `paths` those at which something is wanted."""
     path, _, content, ids, _ = goal
     for item in state.placed:
         if item.content == content:
@@ -113,12 +109,12 @@ def has_piece(state, head, start):
     return False
 
 
-def needs_request(state, waiting, entry):
+def needs_request(state, heads, waiting, entry):
     """True if a request is to be added for a coming entry, where `waiting` are those that wait."""
     head = entry.purpose[1]
     if has_request(waiting, state.me, head) or has_piece(state, head, entry.length):
         return False
-    return is_whole(entry) or source(state, head) is not None
+    return is_whole(entry) or source_among(state, heads, head) is not None
 
 
 def see_to_coming(state):
@@ -132,5 +128,5 @@ def see_to_coming(state):
     state.pieces = [piece for piece in state.pieces if is_awaited(state, piece[0], piece[1])]
     waiting = list(state.requests)
     for entry in state.shelf:
-        if is_coming(entry) and needs_request(state, waiting, entry):
+        if is_coming(entry) and needs_request(state, heads, waiting, entry):
             state.requests.append((state.me, entry.purpose[1], entry.length))

@@ -6,6 +6,8 @@ An edit, a place and a line are tuples whose parts stand in the order that the d
 
 def find_line(lines, line_id):
     """The line with this line id, or None."""
+    if line_id is None:
+        return None
     for line in lines:
         if line[0] == line_id:
             return line
@@ -95,6 +97,8 @@ def with_new_line(lines, edit):
 
 def first_replaced(lines, replaces):
     """The first line that is no folder line and whose head is replaced, or None."""
+    if replaces == ():
+        return None
     for line in lines:
         if line[4] is not None and line[1] in replaces:
             return line

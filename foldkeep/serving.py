@@ -1,6 +1,6 @@
 """Requests for texts: how they are served, and what is said and heard of them."""
 
-from foldkeep.expected import coming_entry, coming_index, has_piece, is_coming, is_whole, source
+from foldkeep.expected import coming_entry, coming_index, has_piece, is_coming, is_whole, source, source_among
 from foldkeep.marks import MOST_PIECE, mark_of, piece_of
 from foldkeep.state import Placed, Shelved, shelf_index
 from foldkeep.transfers import fits_now
@@ -11,6 +11,11 @@ MOST_REQUESTS = 64
 
 def serving_operation(state, request):
     """The operation that serves the request, or None."""
+    return serving_among(state, heads_known(state), request)
+
+
+def serving_among(state, heads, request):
+    """The operation that serves the request, or None, where `heads` are the contents of all lines, by head."""
     device, head, _ = request
     if device == state.me:
         entry = coming_entry(state, head)
@@ -18,7 +23,7 @@ def serving_operation(state, request):
             return None
         if is_whole(entry):
             return ("read_shelf", entry.place)
-    known = source(state, head)
+    known = source_among(state, heads, head)
     if known is None:
         return None
     return known[0]
@@ -127,8 +132,8 @@ def say_asks(state):
 
 
 def is_asked_for(state, heads, entry):
-    """True if other devices are asked for a coming entry, where `heads` are all heads."""
+    """True if other devices are asked for a coming entry, where `heads` are the contents of all lines, by head."""
     _, head, mark = entry.purpose
     if head not in heads or is_whole(entry) or mark[0] == 0:
         return False
-    return not has_piece(state, head, entry.length) and source(state, head) is None
+    return not has_piece(state, head, entry.length) and source_among(state, heads, head) is None

@@ -4,8 +4,8 @@ from foldkeep.shown import shown_at, shown_tree
 
 
 def heads_known(state):
-    """The heads of all known lines, in a dict that only has True as values."""
-    return {line[1]: True for line in state.know.lines()}
+    """The contents of all known lines, by head."""
+    return {line[1]: line[4] for line in state.know.lines()}
 
 
 def shares(ids, others):
@@ -37,7 +37,7 @@ def suits(entries, item):
 
 
 def serves_among(heads, ids, kept_ids):
-    """True if what stands for `kept_ids` serves `ids`, where `heads` are the heads of all known lines."""
+    """True if what stands for `kept_ids` serves `ids`, where `heads` are the contents of all lines, by head."""
     return shares(kept_ids, ids) or not shares(kept_ids, heads)
 
 
@@ -55,7 +55,7 @@ def is_reserved(state, place):
 
 
 def lies_at(state, heads, content, ids):
-    """The place at which a text with this content lies for these ids, where `heads` are all heads; or None."""
+    """The place at which a text with this content lies for these ids, where `heads` are as above; or None."""
     for entry in state.shelf:
         if entry.purpose[0] == "kept":
             was = entry.purpose[1]

@@ -1,6 +1,7 @@
 """What the tests of keepers share: short ways to make lines, entries and states, and to run scans."""
 
 from foldkeep.ending import end_scan
+from foldkeep.keeper import Keeper
 from foldkeep.knowing import Knowledge
 from foldkeep.marks import mark_of
 from foldkeep.names import Rule
@@ -94,6 +95,13 @@ def a_state(lines=(), *, rule=None, ignores=(), clock=None, **more):
         0, [0, 1, 2], Rule() if rule is None else rule, ignores, know=knowing(list(lines), clock=clock), **more)
 
 
+def a_keeper(lines=(), **more):
+    """The keeper of device 0 with such a state."""
+    keeper = Keeper(0, [0, 1, 2], Rule())
+    keeper.state = a_state(lines, **more)
+    return keeper
+
+
 def a_scan(*found, heads=None, at_rest=True, taken=(), have_read=()):
     """A scan that has nothing left to be asked."""
     scan = Scan(list(heads or []))
@@ -145,6 +153,7 @@ def rows(placed):
 def looks_of(state):
     """All that a state is, as plain values (except for a scan)."""
     told = {name: value for name, value in vars(state).items() if name not in ("know", "placed", "shelf", "scan")}
+    told["rule"] = dict(vars(state.rule))
     told["know"] = with_own_lists(vars(state.know))
     told["placed"] = rows(state.placed)
     told["shelf"] = shelf_rows(state.shelf)

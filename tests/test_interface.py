@@ -77,6 +77,14 @@ FUNCTIONS = {
         "is_spare": "(state, entry)", "wish_trim": "(state, most)", "next_drop": "(state)",
         "wish_restore": "(state, place, path)",
     },
+    "codes": {
+        "pack_text": "(text)", "pack_path": "(path)", "pack_edit": "(edit)", "pack_line": "(line)",
+        "pack_placed": "(item)", "pack_shelved": "(entry)", "pack_operation": "(operation)", "read_edit": "(reader)",
+        "read_line": "(reader)", "read_placed": "(reader)", "read_shelved": "(reader)", "read_operation": "(reader)",
+    },
+    "saved": {"pack_state": "(state)", "save_text": "(state)", "load_text": "(text)"},
+    "keeper": {"load_keeper": "(text)", "keeper_copy": "(keeper)"},
+    "scripts": {"read_event": "(line)", "read_events": "(text)", "run_script": "(net, text)"},
 }
 
 CLASSES = {
@@ -115,6 +123,29 @@ CLASSES = {
     "scanning": {
         "Found": {"__init__": "(self, path, thing, kind, count, cuts, mark)"},
         "Scan": {"__init__": "(self, heads)"},
+    },
+    "codes": {
+        "Reader": {
+            "__init__": "(self, numbers)", "number": "(self)", "flag": "(self)", "sign": "(self)", "text": "(self)",
+            "path": "(self)", "edit_id": "(self)", "edit_ids": "(self)", "maybe_id": "(self)", "mark": "(self)",
+            "content": "(self)", "size": "(self)", "at_end": "(self)",
+        },
+    },
+    "keeper": {
+        "Keeper": {
+            "__init__": "(self, me, devices, rule, ignores=())", "want": "(self)", "told": "(self, answer)",
+            "hear": "(self, sender, word)", "speak": "(self, receiver)", "wish": "(self, wished)", "crash": "(self)",
+            "status": "(self)", "lines": "(self)", "wanted": "(self)", "save": "(self)",
+        },
+    },
+    "net": {
+        "Net": {
+            "__init__": "(self, rules, ignores=())", "program": "(self, device, deed)", "step": "(self, device)",
+            "refuse": "(self, device)", "unanswered": "(self, device)", "crash": "(self, device)",
+            "speak": "(self, device, other)", "deliver": "(self, place)", "lose": "(self, place)",
+            "again": "(self, place)", "wish": "(self, device, wished)", "work": "(self, device, most)",
+            "post": "(self, most)", "host_of": "(self, device)", "keeper_of": "(self, device)", "fork": "(self)",
+        },
     },
 }
 
