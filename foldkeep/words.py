@@ -36,7 +36,7 @@ def part_at(line, at):
     if end < 0:
         end = len(line)
     word = line[at:end]
-    if word == "" or "\"" in word or "\n" in word:
+    if word == "":
         return None
     if word[0] not in DIGITS:
         return (("word", word), end)

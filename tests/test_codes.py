@@ -102,6 +102,8 @@ class PlainThings(Case):
     def test_integers(self):
         for code in [0, 1, 4294967296, 10 ** 60 - 1]:
             self.check(Reader.number, [code], code)
+        with self.assertRaises(NoKeeper):
+            Reader([-1]).number()
 
     def test_flags(self):
         for code, flag in [(0, False), (1, True)]:

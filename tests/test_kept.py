@@ -88,7 +88,8 @@ class Spare(unittest.TestCase):
     def test_what_is_kept_at_another_place_has_this_head(self):
         was = a_file("b", thing=9, text="q", ids=(HEAD,))
         self.assertIs(self.spare(self.SAME, beside=[kept(5, was)]), True)
-        for beside in [kept(4, was), found_there(5, was), going_back(5, was), coming(5, HEAD, "abc")]:
+        other = kept(5, a_file("b", thing=9, text="abc", ids=((1, 1), (9, 9))))
+        for beside in [kept(4, was), found_there(5, was), going_back(5, was), coming(5, HEAD, "abc"), other]:
             self.assertIs(self.spare(self.SAME, beside=[beside]), False)
 
     def test_several_lines_with_its_content(self):

@@ -92,7 +92,7 @@ class NoDevice(Case):
 
     def test_each_method(self):
         net = a_net_with_a_file()
-        for device in [2, 3, 99]:
+        for device in [2, 3, 99, -1]:
             for name, *more in [
                 ("program", ("cut", 7)), ("program", ("make", B, "x", False)), ("step",), ("refuse",), ("unanswered",),
                 ("crash",), ("speak", 0), ("speak", 1), ("speak", device), ("wish", ("scan",)), ("wish", ("fetch", ("q",))),
@@ -249,7 +249,7 @@ class Letters(Case):
         return net
 
     def test_a_letter_that_there_is_not(self):
-        for net, places in [(self.net(), [3, 4, 100]), (a_net(), [0, 1])]:
+        for net, places in [(self.net(), [3, 4, 100, -1]), (a_net(), [0, 1])]:
             for place in places:
                 for name in ["deliver", "lose", "again"]:
                     self.raises(NoSuchLetter, net, name, place)

@@ -73,6 +73,7 @@ class Events(unittest.TestCase):
         self.none("", " ", "\t")
 
     def test_blanks_between_quoted_texts(self):
+        self.none('0 write folder "a"x7 "x"', '0 rename folder "a"xfolder "b"', '0 rename folder "a"\tfolder "b"')
         self.none('0 make folder "a""x" runs', '0 make folder "a"  "x" runs', '0 make folder"a" "x" runs', '0 make folder "a" "x"runs')
 
     def test_words_that_are_none(self):
@@ -128,7 +129,7 @@ class Events(unittest.TestCase):
         self.none('0 make thing 3 "x" runs', "0 remove thing 3", "0 open thing 3", "0 make_folder thing 3", '0 rename thing 3 folder "a"',
                   '0 rename folder "a" thing 3', '0 cut 3', '0 read "a"', '0 read in "a"', '0 read in 3', '0 read in 3 4', '0 read thing "a"',
                   "0 read thing", "0 read folder", "0 read folder a", '0 close thing 3', '0 close folder "a"', '0 read Folder "a"',
-                  '0 remove shelf "a"', '0 read in "3" "a"')
+                  '0 remove shelf "a"', '0 read in "3" "a"', '0 read x 3 "a"', '0 remove thing 3 "a"', '0 read folder 3 "a"')
 
     def test_kinds_of_values(self):
         event = read_event('0 make folder "a" "x" runs')

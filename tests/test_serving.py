@@ -449,6 +449,10 @@ class Saying(unittest.TestCase):
 
     def test_its_text_is_empty(self):
         self.assertEqual(self.said(coming(4, HEAD, "")), [])
+        self.assertEqual(self.said(coming(4, HEAD, "x")), [("ask", HEAD, 0)])
+        # It is the length that counts, whatever the sums are.
+        self.assertEqual(self.said(Shelved(4, 0, 0, 0, 0, ("coming", HEAD, (0, 5, 5, False)))), [])
+        self.assertEqual(self.said(Shelved(4, 0, 0, 0, 0, ("coming", HEAD, (1, 0, 0, False)))), [("ask", HEAD, 0)])
 
     def test_a_piece_has_come_that_starts_at_its_length(self):
         self.assertEqual(self.said(self.PART, pieces=[(HEAD, 2, "c")]), [])
