@@ -52,8 +52,9 @@ class Keeper:
 
     def crash(self):
         """Forgets what it is about; if a change is pending, it looks at its shelf next."""
-        self.state.scan = None
-        self.state.stage = ("idle",) if self.state.pending is None else ("look",)
+        state = self.state
+        state.scan = None
+        state.stage = ("idle",) if state.pending is None else ("look",)
 
     def status(self):
         """What it keeps, as a dict."""

@@ -115,28 +115,35 @@ def read_forms(forms, parts):
     return tuple(things)
 
 
-def read_one_of(table, parts):
-    """The word of the table with which the parts begin and what stands behind it, as a tuple; None otherwise."""
-    if parts == [] or parts[0][0] != "word" or parts[0][1] not in table:
+def first_word(parts):
+    """The word with which the parts begin, or None."""
+    if parts == [] or parts[0][0] != "word":
         return None
-    word = parts[0][1]
-    things = read_forms(table[word], parts[1:])
+    return parts[0][1]
+
+
+def read_behind_word(forms, parts):
+    """The first word and what stands behind it, as a tuple, if that has these forms; otherwise None."""
+    if forms is None:
+        return None
+    things = read_forms(forms, parts[1:])
     if things is None:
         return None
-    return (word, *things)
+    return (first_word(parts), *things)
 
 
 def read_on_device(device, parts):
     """What happens on a device, or None."""
-    if parts[:1] == [("word", "wish")]:
-        wished = read_one_of(WISHES, parts[1:])
+    word = first_word(parts)
+    if word == "wish":
+        wished = read_behind_word(WISHES.get(first_word(parts[1:])), parts[1:])
         if wished is None:
             return None
         return ("wish", device, wished)
-    deed = read_one_of(DEEDS, parts)
+    deed = read_behind_word(DEEDS.get(word), parts)
     if deed is not None:
         return ("program", device, deed)
-    event = read_one_of(ON_DEVICES, parts)
+    event = read_behind_word(ON_DEVICES.get(word), parts)
     if event is None:
         return None
     return (event[0], device) + event[1:]
@@ -149,7 +156,7 @@ def read_event(line):
         return None
     if parts[0][0] == "number":
         return read_on_device(parts[0][1], parts[1:])
-    return read_one_of(ON_LETTERS, parts)
+    return read_behind_word(ON_LETTERS.get(first_word(parts)), parts)
 
 
 def read_events(text):

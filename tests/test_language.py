@@ -265,6 +265,36 @@ class Language(unittest.TestCase):
                     for name in [getattr(node, "id", ""), getattr(node, "attr", "")]:
                         self.assertNotIn(name, NOT_AS_WORDS)
 
+    def test_lists_and_dicts_at_module_level_are_only_read(self):
+        for file, tree in trees():
+            with self.subTest(file=file.name):
+                tables = [node.targets[0].id for node in tree.body
+                          if isinstance(node, ast.Assign) and isinstance(node.value, (ast.List, ast.Dict))]
+                for node in tree.body:
+                    if isinstance(node, ast.Assign) and isinstance(node.value, (ast.List, ast.Dict)):
+                        for part in ast.walk(node.value):
+                            self.assertTrue(part is node.value or not isinstance(part, (ast.List, ast.Dict)))
+                allowed = []
+                for node in ast.walk(tree):
+                    if isinstance(node, ast.Subscript) and isinstance(node.ctx, ast.Load):
+                        allowed.append(node.value)
+                    if isinstance(node, ast.Attribute) and node.attr == "get":
+                        allowed.append(node.value)
+                    if isinstance(node, ast.Compare):
+                        allowed.extend(node.comparators)
+                for node in ast.walk(tree):
+                    if isinstance(node, ast.Name) and isinstance(node.ctx, ast.Load) and node.id in tables:
+                        self.assertIn(node, allowed, node.id)
+                    if isinstance(node, ast.ImportFrom):
+                        for alias in node.names:
+                            self.assertNotIn(alias.name, self.tables_of(node.module), "a table is read in its own file")
+
+    def tables_of(self, module):
+        """The names of the lists and dicts at the module level of a file."""
+        tree = tree_of(PACKAGE / (module.split(".")[1] + ".py"))
+        return [node.targets[0].id for node in tree.body
+                if isinstance(node, ast.Assign) and isinstance(node.value, (ast.List, ast.Dict))]
+
     def test_lambdas_take_one_plain_parameter(self):
         for file, tree in trees():
             with self.subTest(file=file.name):
